@@ -494,21 +494,30 @@ func TestEvaluateSizes(t *testing.T) {
 	}
 }
 
+func checkProved(t *testing.T, c run, elements []impl.Point) {
+	t.Helper()
+	e, code := c.evaluate(elements...)
+	accepted := e.Proof == impl.Proof{}
+	switch c.mode {
+	case 1:
+		accepted = impl.Check(1, impl.Base(), c.public, elements, e.Elements, e.Proof)
+	case 2:
+		b := impl.Times(plainT2(c.key, c.info), impl.Base())
+		accepted = impl.Check(2, impl.Base(), b, e.Elements, elements, e.Proof) && !impl.Check(2, impl.Base(), b, elements, e.Elements, e.Proof)
+	}
+	if code != impl.OprfOk || !accepted {
+		t.Errorf("%s, %d elements: code %d, or the proof is not accepted", c.name(), len(elements), code)
+	}
+}
+
 // Promise 6, of the proofs that Evaluate makes: in mode 2 the points are proved the other way round.
 func TestEvaluateIsProved(t *testing.T) {
 	for i, c := range allRuns() {
-		elements := pointsFrom(uint64(2*i+1), 1+i%4)
-		e, code := c.evaluate(elements...)
-		accepted := e.Proof == impl.Proof{}
-		switch c.mode {
-		case 1:
-			accepted = impl.Check(1, impl.Base(), c.public, elements, e.Elements, e.Proof)
-		case 2:
-			b := impl.Times(plainT2(c.key, c.info), impl.Base())
-			accepted = impl.Check(2, impl.Base(), b, e.Elements, elements, e.Proof) && !impl.Check(2, impl.Base(), b, elements, e.Elements, e.Proof)
-		}
-		if code != impl.OprfOk || !accepted {
-			t.Errorf("%s: code %d, or the proof is not accepted", c.name(), code)
+		checkProved(t, c, pointsFrom(uint64(2*i+1), 1+i%4))
+	}
+	for _, mode := range modes() {
+		for _, size := range []int{1, 2, 17, impl.MaxBatch - 1, impl.MaxBatch} {
+			checkProved(t, runOf(mode, 77, "", ""), pointsFrom(3, size))
 		}
 	}
 }
