@@ -107,7 +107,7 @@ func (p play) rewrite(at int, body string) play {
 	return p
 }
 
-// registers goes through a whole registration, and logs in through a whole login.
+// registers goes through a whole registration, and logsIn through a whole login.
 func (p play) registers(user string, pass string) play {
 	return p.then(asksRegister(user, pass)).give(impl.MRegister).give(impl.MEvaluated).give(impl.MRecord).give(impl.MDone)
 }
@@ -775,7 +775,7 @@ func checkDelivery(t *testing.T, p play, at int) visit {
 	return v
 }
 
-// nameOf has a name of this size that is nobody's else.
+// nameOf has a name of this size, which is known by it.
 func nameOf(size int) string {
 	return strings.Repeat("n", size)
 }
@@ -840,8 +840,8 @@ func stages() []play {
 	return out
 }
 
-// reachable has all that can come to a state. To the server there goes nothing of the size of the messages that only a client gets, nor the other way round;
-// and a client that waits for the first answer cannot get MDone, as it has sent nothing yet that leads there, nor one that sent a record MReply.
+// reachable has all that can come to a state. A packet keeps its size and its way, so that a message that only a client gets never comes to the server, nor the other way round.
+// A client that waits for its first answer cannot get MDone, as nothing was sent yet that leads there; nor can one that sent its record get MReply, as its side is past that.
 func reachable() map[visit]bool {
 	out := map[visit]bool{}
 	for _, state := range []int{impl.SNew, impl.SRegister, impl.SLogin, impl.SDone} {
